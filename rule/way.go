@@ -4,6 +4,7 @@ import (
 	"slices"
 
 	"groundwork/api"
+	"groundwork/fill"
 	"groundwork/relation"
 )
 
@@ -15,7 +16,7 @@ type way struct {
 
 func (w way) knows(t api.Term) bool { return t.Var < 0 || w.known[t.Var] }
 
-func (w way) number(t api.Term) int { return number(t, w.numbers[:]) }
+func (w way) number(t api.Term) int { return fill.Number(t, w.numbers[:]) }
 
 // with: the way on from this one on which terms are these numbers; is there one?
 func (w way) with(terms []api.Term, numbers []int) (way, bool) {
@@ -77,7 +78,7 @@ func hold(facts []api.Fact, l api.Lit, w way, tell func(way) bool) bool {
 	case api.LitYes:
 		return holdYes(facts, l, w, tell)
 	case api.LitNot:
-		return relation.Has(facts, fact(l.Pred, l.Terms, w.numbers[:])) || tell(w)
+		return relation.Has(facts, fill.Fact(l.Pred, l.Terms, w.numbers[:])) || tell(w)
 	case api.LitTest:
 		return !isSo(l.Op, w.number(l.Terms[0]), w.number(l.Terms[1])) || tell(w)
 	}
