@@ -12,11 +12,7 @@ func order(a, b api.Update) int { return update.Order(a.Id, b.Id) }
 
 // copies of updates, in order.
 func copies(l iter.Seq[api.Update]) []api.Update {
-	sorted := slices.SortedFunc(l, order)
-	for i, u := range sorted {
-		sorted[i] = update.Copy(u)
-	}
-	return sorted
+	return update.Copies(slices.SortedFunc(l, order))
 }
 
 // updates by their ids.

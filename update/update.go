@@ -31,3 +31,17 @@ func Copy(u api.Update) api.Update {
 	}
 	return api.Update{Id: u.Id, Parents: slices.Clone(u.Parents), Says: says, Takes: slices.Clone(u.Takes)}
 }
+
+// Copies of updates.
+func Copies(l []api.Update) []api.Update {
+	l = slices.Clone(l)
+	for i, u := range l {
+		l[i] = Copy(u)
+	}
+	return l
+}
+
+// CopyReplica, all its updates too.
+func CopyReplica(r api.Replica) api.Replica {
+	return api.Replica{Has: Copies(r.Has), Waits: Copies(r.Waits)}
+}

@@ -65,3 +65,25 @@ func TestCopy(t *testing.T) {
 		t.Errorf("a copy of nothing is %v", none)
 	}
 }
+
+// P2: copies of updates, and of a replica, are the same in order, and share no memory.
+func TestCopies(t *testing.T) {
+	made := func() api.Replica {
+		l := []api.Update{{Id: api.Id{Author: 3, Number: 1}, Says: []api.Fact{{Pred: 1, Args: []int{4, 5}}}}, {Id: api.Id{Author: 2, Number: 2}, Parents: []api.Id{{Author: 2, Number: 1}}}}
+		return api.Replica{Has: l, Waits: []api.Update{l[1], l[0]}}
+	}
+	r := made()
+	c := CopyReplica(r)
+	if l := Copies(r.Waits); fmt.Sprint(c) != fmt.Sprint(r) || fmt.Sprint(l) != fmt.Sprint(r.Waits) {
+		t.Errorf("copies of %v are %v, %v", r, c, l)
+	}
+	clear(c.Has[0].Says[0].Args)
+	clear(c.Has[1].Parents)
+	clear(c.Has)
+	if fmt.Sprint(r) != fmt.Sprint(made()) || fmt.Sprint(c.Waits) != fmt.Sprint(r.Waits) {
+		t.Errorf("they are %v and %v behind a change of a copy", r, c.Waits)
+	}
+	if none := CopyReplica(api.Replica{}); fmt.Sprint(none) != fmt.Sprint(api.Replica{}) {
+		t.Errorf("a copy of nothing is %v", none)
+	}
+}
